@@ -1,0 +1,1 @@
+"""Covers: pictures of coloured places laid out with plates."""

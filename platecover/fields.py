@@ -31,3 +31,10 @@ def read_field(reader):
 def coloured_places(field):
     """How many places of the field have a colour."""
     return len(field.places) - field.places.count(ord(NO_COLOUR))
+
+
+def colour_at(field, place):
+    """The colour of the field's place of that number, or None."""
+    if field.places[place] == ord(NO_COLOUR):
+        return None
+    return field.places[place] - ord(DIGITS[0])

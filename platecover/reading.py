@@ -1,4 +1,4 @@
-"""Reading a text from the front: what the texts of fields and of catalogues share."""
+"""Reading a text from the front: what the texts of fields, catalogues and builds share."""
 
 DIGITS = "0123456789"
 LETTERS = "abcdefghijklmnopqrstuvwxyz"

@@ -4,6 +4,7 @@ The expected answers here are drawn from the words of the document alone: they
 share no code with the package and go about it differently on purpose.
 """
 
+import random
 import re
 import unittest
 
@@ -22,26 +23,36 @@ class Untouchable(list):
     append = extend = insert = remove = pop = clear = sort = reverse = refuse
 
 
+def copied(value, kind):
+    return kind(value) if isinstance(value, list) else value
+
+
+def shown(value):
+    return value if isinstance(value, int) or len(value) < 200 else value[:200] + ".."
+
+
 class CallCase(unittest.TestCase):
     """Calls a function in every way that must make no difference, and looks at the answer."""
 
     call = None
 
-    def answer(self, given):
+    def answer(self, *given):
         function = type(self).call
-        plain = list(given)
-        got = function(plain)
-        self.assertEqual(plain, list(given), "what was handed in is another now")
+        plain = [copied(value, list) for value in given]
+        got = function(*plain)
+        self.assertEqual(plain, [copied(value, list) for value in given], "what was handed in is another now")
         self.assertIs(type(got), list)
         self.assertEqual([int] * len(got), [type(number) for number in got])
         kept = list(got)
         got.append(77)
-        self.assertEqual(kept, function(Untouchable(given)), "the second answer is another")
+        untouchable = [copied(value, Untouchable) for value in given]
+        self.assertEqual(kept, function(*untouchable), "the second answer is another")
         return kept
 
-    def check(self, expected, text):
-        shown = text if len(text) < 200 else text[:200] + ".."
-        self.assertEqual(expected, self.answer(to_bytes(text)), repr(shown))
+    def check(self, expected, *given):
+        """Texts are handed in as their bytes, numbers as they are."""
+        got = self.answer(*[to_bytes(value) if isinstance(value, str) else value for value in given])
+        self.assertEqual(expected, got, [shown(value) for value in given])
 
 
 # Fields
@@ -172,3 +183,203 @@ def expected_plates(text):
         if height == 1 and width <= 6 and depth <= 4 and whole:
             best[width, depth] = number
     return sorted(best.values())
+
+
+# Covers
+
+ALL_SIZES = tuple((width, depth) for depth in range(1, 5) for width in range(1, 7))
+NO_PLATE = part_text("a", [["#"]])
+
+
+def catalogue_of(*sizes):
+    """A catalogue of plates of these widths and depths, in this order."""
+    return "".join(full_part(f"p{number:02d}", *size) for number, size in enumerate(sizes))
+
+
+def field_of(*rows):
+    return field_text(len(rows[0]), len(rows), rows)
+
+
+def colours_of(f):
+    """Of each coloured place (x, y) of a field its colour."""
+    rows = f.split("\n")[1:-1]
+    return {(x, y): int(sign) for y, row in enumerate(rows) for x, sign in enumerate(row) if sign != "."}
+
+
+def sizes_of_plates(c):
+    """Of each plate's number its width and depth."""
+    parts = split_catalogue(c)
+    return {number: parts[number][1:3] for number in expected_plates(c)}
+
+
+def laid(size, x, y):
+    """The places under a plate whose corner is at (x, y)."""
+    return [(x + dx, y + dy) for dx in range(size[0]) for dy in range(size[1])]
+
+
+def ways_from_the_back(sizes, colours):
+    """All sets of lines (y, x, part, colour) on these places: the last place goes under some plate, and so on."""
+    if not colours:
+        yield []
+        return
+    last_x, last_y = max(colours, key=lambda place: (place[1], place[0]))
+    colour = colours[last_x, last_y]
+    for part, size in sizes.items():
+        x, y = last_x - size[0] + 1, last_y - size[1] + 1
+        under = laid(size, x, y)
+        if all(colours.get(place) == colour for place in under):
+            left = {place: value for place, value in colours.items() if place not in under}
+            for lines in ways_from_the_back(sizes, left):
+                yield lines + [(y, x, part, colour)]
+
+
+def ways_in_any_order(sizes, colours):
+    """The same, found without any thought of which line comes first or last: any place may be looked at."""
+    if not colours:
+        return {frozenset()}
+    some_x, some_y = sorted(colours)[len(colours) // 2]
+    colour = colours[some_x, some_y]
+    found = set()
+    for part, size in sizes.items():
+        for dx, dy in laid(size, 0, 0):
+            x, y = some_x - dx, some_y - dy
+            under = laid(size, x, y)
+            if all(colours.get(place) == colour for place in under):
+                left = {place: value for place, value in colours.items() if place not in under}
+                for lines in ways_in_any_order(sizes, left):
+                    found.add(lines | {(y, x, part, colour)})
+    return found
+
+
+def parts_of(cover):
+    return [line[2] for line in cover]
+
+
+def all_covers(c, f, ways=ways_in_any_order):
+    """All covers, in order, each a list of lines (y, x, part, colour)."""
+    covers = [sorted(lines) for lines in ways(sizes_of_plates(c), colours_of(f))]
+    return sorted(covers, key=parts_of)
+
+
+def cover_text(c, name, cover):
+    names = [part[0] for part in split_catalogue(c)]
+    lines = [f"put {names[part]} {colour} {x} {y} 0 0\n" for y, x, part, colour in cover]
+    return f"build {name}\n" + "".join(lines)
+
+
+def with_length(text):
+    return [len(text)] + to_bytes(text)
+
+
+def row_by_row(c, f):
+    """How many lines a cover has at least (None if there's no cover), and how many covers there are.
+
+    For fields with too many covers to go through. After each row it's known of
+    each column how many more rows are covered already; a row is filled from the right.
+    """
+    width, depth = map(int, f.split("\n")[0].split()[1:])
+    colours = colours_of(f)
+    sizes = list(sizes_of_plates(c).values())
+    found = {(0,) * width: (0, 1)}
+    for y in range(depth):
+        behind = {}
+        for over, (fewest, count) in found.items():
+            for after, lines in fillings(sizes, colours, over, y):
+                before = behind.get(after, (999, 0))
+                behind[after] = (min(before[0], fewest + lines), before[1] + count)
+        found = behind
+    return found.get((0,) * width, (None, 0))
+
+
+def fillings(sizes, colours, over, y):
+    """All ways to fill row y: what's covered of the rows behind it, and how many lines begin in it."""
+    waiting = [((), len(over), 0)]
+    done = []
+    while waiting:
+        right, x, lines = waiting.pop()
+        if x == 0:
+            done.append((right, lines))
+        elif over[x - 1] > 0:
+            waiting.append(((over[x - 1] - 1,) + right, x - 1, lines))
+        elif (x - 1, y) not in colours:
+            waiting.append(((0,) + right, x - 1, lines))
+        else:
+            for size in sizes:
+                left = x - size[0]
+                if left >= 0 and not any(over[left:x]):
+                    if len({colours.get(place) for place in laid(size, left, y)}) == 1:
+                        waiting.append(((size[1] - 1,) * size[0] + right, left, lines + 1))
+    return done
+
+
+def random_field(source, width, depth, signs):
+    return field_of(*["".join(source.choices(signs, k=width)) for y in range(depth)])
+
+
+def random_catalogue(source, sizes):
+    """Plates of these sizes in some order, other parts between them, some of them twice."""
+    texts = []
+    for size in source.sample(sizes, len(sizes)):
+        width, depth = size
+        choice = source.random()
+        if choice < 0.15:
+            texts.append((size, "s"))
+        texts.append((size, "b"))
+        if choice > 0.85:
+            texts.append((source.choice(sizes), "b"))
+        if 0.4 < choice < 0.5:
+            texts.append(((7, 1), "b"))
+    return "".join(full_part(f"n{number:02d}", *size, 1, sign) for number, (size, sign) in enumerate(texts))
+
+
+SMALL_SIZES = tuple((w, d) for w in range(1, 7) for d in range(1, 13) if w * d <= 12)
+
+
+def small_cases(seed, turns):
+    """Catalogues and fields that are small enough to go through all covers."""
+    source = random.Random(seed)
+    for turn in range(turns):
+        width, depth = source.choice(SMALL_SIZES)
+        signs = source.choice(("1", "0.", "9999.", "12", "1122.", "000001", "0123456789.", "77778."))
+        fitting = [size for size in ALL_SIZES if size[0] <= width + 1 and size[1] <= depth + 1]
+        sizes = source.sample(fitting, source.randint(1, min(7, len(fitting))))
+        if source.random() < 0.6 and (1, 1) not in sizes:
+            sizes.append((1, 1))
+        yield random_catalogue(source, sizes), random_field(source, width, depth, signs)
+
+
+# Names and refusals
+
+NO_NAMES = (
+    "", "0", "9", "1a", "A", "aB", "Aa", "a b", "a ", " a", "a\n", "\n", "a-", "a_", "_", ".", "\0", "a\0", "\xe4",
+    "a\xff", "`", "{", "a{", "a/", "a:", "a@", "abcdefghijklmnopq", "a" * 17, "a1234567890123456", "a" * 40, "-" * 40,
+)
+NAMES = ("a", "z", "a0", "z9", "name", "abcdefghijklmnop", "a123456789012345", "put", "build", "zzzzzzzzzzzzzzzz")
+
+ORDER = (-1, -2, -6, -8, -10, -5, -3)
+
+# Of each argument what can be wrong with it, and the refusals that this alone would bring.
+FAULTY_CATALOGUES = (
+    (catalogue_of((1, 1)), ()),
+    (NO_PLATE, (-3,)),
+    (catalogue_of((1, 1)) + "x", (-6,)),
+    ("", (-6,)),
+    (part_text("a", [["."]]), (-8,)),
+    (catalogue_of((1, 1)) + catalogue_of((1, 1)), (-8,)),
+    (part_text("a", [["."]]) + "x", (-6, -8)),
+)
+TOO_LONG_CATALOGUE = catalogue_of((1, 1)) + "x" * 1048576
+FAULTY_FIELDS = (
+    (field_of("11", "1."), ()),
+    ("field 2 2\n11\n1.", (-10,)),
+    ("", (-10,)),
+    ("field 7 1\n1111111\n", (-10,)),
+    (field_of("11", "1.") + "\n" * 16384, (-2, -10)),
+    ("\n" * 16384, (-10,)),
+    ("\n" * 16385, (-2, -10)),
+)
+
+
+def foremost(*refusals):
+    """Of several refusals the one that's looked at first."""
+    return [min((refusal for some in refusals for refusal in some), key=ORDER.index)]

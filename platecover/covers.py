@@ -3,7 +3,7 @@
 from platecover.builds import build_text, is_build_name
 from platecover.catalogues import is_right_catalogue, plate_numbers, read_catalogue
 from platecover.fields import coloured_places, read_field
-from platecover.laying import Laying, fewest_lines, first_of_fewest
+from platecover.laying import Laying, cover_counts, fewest_lines, first_of_fewest, nth_cover
 from platecover.reading import Reader
 
 LONGEST_CATALOGUE = 1048576
@@ -51,6 +51,11 @@ def read_given(c, f):
     return Given(0, given.parts, field)
 
 
+def told_text(text):
+    """The answer that tells a text: how many bytes it has, and then these."""
+    return [len(text)] + text
+
+
 def judge(f):
     """How many places of the field have a colour; or why f is refused, with the fault if it is no field's text."""
     if len(f) > LONGEST_FIELD:
@@ -95,5 +100,27 @@ def first(c, f, s):
     lines = fewest_lines(laying)
     if laying.coloured not in lines:
         return [NO_COVER]
-    text = build_text(s, given.parts, first_of_fewest(laying, lines))
-    return [len(text)] + text
+    return told_text(build_text(s, given.parts, first_of_fewest(laying, lines)))
+
+
+def count(c, f):
+    """How many covers of the field there are; or the refusal."""
+    given = read_given(c, f)
+    if given.refusal < 0:
+        return [given.refusal]
+    laying = Laying(given.parts, given.field)
+    return [cover_counts(laying)[laying.coloured]]
+
+
+def nth(i, c, f, s):
+    """How long the text of cover i is, and the text; or the refusal."""
+    if not is_build_name(s):
+        return [NO_NAME]
+    given = read_given(c, f)
+    if given.refusal < 0:
+        return [given.refusal]
+    laying = Laying(given.parts, given.field)
+    counts = cover_counts(laying)
+    if i >= counts[laying.coloured]:
+        return [NO_COVER]
+    return told_text(build_text(s, given.parts, nth_cover(laying, counts, i)))

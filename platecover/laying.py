@@ -114,3 +114,29 @@ def first_of_fewest(laying, fewest):
         lines.append(line_at(laying, bare, step[0]))
         bare = step[1]
     return lines
+
+
+def cover_counts(laying):
+    """Of each reached set in how many ways lines cover it."""
+    counts = {0: 1}
+    for bare in reached_sets(laying):
+        if bare > 0:
+            counts[bare] = sum([counts[after] for plate, after in steps(laying, bare)])
+    return counts
+
+
+def nth_cover(laying, counts, number):
+    """The lines of the cover of this number, which is less than how many there are."""
+    lines = []
+    bare = laying.coloured
+    left = number
+    while bare > 0:
+        choices = steps(laying, bare)
+        at = 0
+        # The covers that go on with a lesser part come before: they are passed over.
+        while left >= counts[choices[at][1]]:
+            left = left - counts[choices[at][1]]
+            at = at + 1
+        lines.append(line_at(laying, bare, choices[at][0]))
+        bare = choices[at][1]
+    return lines

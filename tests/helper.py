@@ -312,6 +312,12 @@ def fillings(sizes, colours, over, y):
     return done
 
 
+def rest_of(f, colours):
+    """The field with these places coloured alone."""
+    width, depth = map(int, f.split("\n")[0].split()[1:])
+    return field_of(*["".join(str(colours.get((x, y), ".")) for x in range(width)) for y in range(depth)])
+
+
 def random_field(source, width, depth, signs):
     return field_of(*["".join(source.choices(signs, k=width)) for y in range(depth)])
 

@@ -7,7 +7,7 @@ from platecover.covers import fewest, first
 from tests.helper import (
     ALL_SIZES, FAULTY_CATALOGUES, FAULTY_FIELDS, NAMES, NO_NAMES, NO_PLATE, TOO_LONG_CATALOGUE, CallCase, all_covers,
     catalogue_of, colours_of, cover_text, field_of, field_text, foremost, full_part, laid, part_text,
-    random_catalogue, random_field, row_by_row, sizes_of_plates, small_cases, to_bytes, ways_from_the_back,
+    random_catalogue, random_field, rest_of, row_by_row, sizes_of_plates, small_cases, to_bytes, ways_from_the_back,
     with_length,
 )
 
@@ -176,12 +176,6 @@ class GreatFields(FirstCase):
             f = random_field(source, source.randint(3, 5), source.randint(4, 8), signs)
             lengths.append(self.look_at(c, f))
         self.assertGreater(max(lengths), 9)
-
-
-def rest_of(f, colours):
-    """The field with these places coloured alone."""
-    width, depth = map(int, f.split("\n")[0].split()[1:])
-    return field_of(*["".join(str(colours.get((x, y), ".")) for x in range(width)) for y in range(depth)])
 
 
 class Names(FirstCase):

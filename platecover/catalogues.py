@@ -3,7 +3,7 @@
 from platecover.reading import codes
 
 MOST_PARTS = 64
-LONGEST_NAME = 8
+LONGEST_PART_NAME = 8
 GREATEST_WIDTH = 16
 GREATEST_DEPTH = 16
 GREATEST_HEIGHT = 18
@@ -33,7 +33,7 @@ class Part:
 def read_part(reader):
     """Reads the text of one part; where there is none the reader is stuck."""
     reader.take_signs("part ")
-    name = reader.take_name(LONGEST_NAME)
+    name = reader.take_name(LONGEST_PART_NAME)
     reader.take_signs(" ")
     width = reader.take_number(GREATEST_WIDTH)
     reader.take_signs(" ")

@@ -14,13 +14,14 @@ from platecover.fields import colour_at
 
 
 class Laying:
-    """What is to be covered, and of each place the plates that may have their corner there."""
+    """What is to be covered, with which plates, and of each place those that may have their corner there."""
 
     def __init__(self, parts, field):
         self.field = field
+        self.parts = parts
+        self.plates = plate_numbers(parts)
         self.coloured = coloured_set(field)
-        plates = plate_numbers(parts)
-        self.shapes = [shapes_at(parts, plates, field, place) for place in range(len(field.places))]
+        self.shapes = [shapes_at(parts, self.plates, field, place) for place in range(len(field.places))]
 
 
 def coloured_set(field):
@@ -140,3 +141,14 @@ def nth_cover(laying, counts, number):
         lines.append(line_at(laying, bare, choices[at][0]))
         bare = choices[at][1]
     return lines
+
+
+def number_of_cover(laying, counts, lines):
+    """The number of the cover that has these lines: how many covers come before it."""
+    number = 0
+    bare = laying.coloured
+    for line in lines:
+        choices = steps(laying, bare)
+        number = number + sum([counts[after] for plate, after in choices if plate < line.part])
+        bare = [after for plate, after in choices if plate == line.part][0]
+    return number

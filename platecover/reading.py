@@ -12,8 +12,9 @@ def codes(signs):
 class Reader:
     """Goes through a text byte by byte, and is stuck for good at the first byte that doesn't fit.
 
-    Whatever it has taken can be gone on with to a whole text, so the place where
-    it is stuck is the fault. What it gives back once it is stuck means nothing.
+    Whatever it has taken of a field's text can be gone on with to a whole one, so
+    the place where it is stuck is the fault. What it gives back once it is stuck
+    means nothing.
     """
 
     def __init__(self, text):
@@ -58,6 +59,14 @@ class Reader:
         if value == 0:
             self.stuck = True
         return value
+
+    def take_number_or_nought(self, greatest):
+        """Takes a number from 0 to the greatest, in tens, without needless noughts."""
+        nought = codes(DIGITS[0])
+        if self.sees(nought):
+            self.take(nought)
+            return 0
+        return self.take_number(greatest)
 
     def take_name(self, longest):
         """Takes a name: letters and figures, at most so many, the first a letter."""

@@ -354,6 +354,67 @@ def small_cases(seed, turns):
         yield random_catalogue(source, sizes), random_field(source, width, depth, signs)
 
 
+# Builds
+
+LINE = re.compile("put ([a-z][a-z0-9]*)" + " (0|[1-9][0-9]*)" * 5)
+
+
+def split_build(c, b):
+    """The lines (part, colour, x, y, z, r) of a build of the catalogue, or None if b is no build's text."""
+    names = [part[0] for part in split_catalogue(c)]
+    rows = b.split("\n")
+    if rows[-1] != "" or len(rows) > 258 or re.fullmatch("build [a-z][a-z0-9]{0,15}", rows[0]) is None:
+        return None
+    lines = []
+    for row in rows[1:-1]:
+        found = LINE.fullmatch(row)
+        if found is None or found[1] not in names:
+            return None
+        numbers = [int(found[k]) for k in range(2, 7)]
+        if any(value > most for value, most in zip(numbers, (255, 63, 63, 95, 3))):
+            return None
+        lines.append((names.index(found[1]), *numbers))
+    return lines
+
+
+def faults_of_line(sizes, colours, lines, at):
+    """Which of the points 1 to 3 the line breaks, those that can be told of it."""
+    part, colour, x, y, z, r = lines[at]
+    faults = set()
+    if part not in sizes or z > 0 or r > 0:
+        faults.add(1)
+    if at > 0 and not (lines[at - 1][3], lines[at - 1][2]) < (y, x):
+        faults.add(2)
+    earlier = [place for line in lines[:at] if line[0] in sizes for place in laid(sizes[line[0]], line[2], line[3])]
+    for place in laid(sizes.get(part, (1, 1)), x, y):
+        if colours.get(place) != colour or place in earlier:
+            faults.add(3)
+    return faults
+
+
+def expected_covers(c, f, b):
+    """What covers answers, c and f being as they must be."""
+    lines = split_build(c, b)
+    if lines is None:
+        return [-5]
+    colours = colours_of(f)
+    sizes = sizes_of_plates(c)
+    for at in range(len(lines)):
+        faults = faults_of_line(sizes, colours, lines, at)
+        if faults:
+            return [1, min(faults), at]
+    width = int(f.split()[1])
+    covered = [place for line in lines for place in laid(sizes[line[0]], line[2], line[3])]
+    left = [width * y + x for x, y in colours if (x, y) not in covered]
+    return [1, 4, min(left)] if left else [0]
+
+
+def build_of(*lines, name="x"):
+    """A build's text out of its lines, each told without `put`; z and r are 0 where they aren't told."""
+    rows = [line if len(line.split()) == 6 else line + " 0 0" for line in lines]
+    return f"build {name}\n" + "".join(f"put {row}\n" for row in rows)
+
+
 # Names and refusals
 
 NO_NAMES = (
@@ -383,6 +444,15 @@ FAULTY_FIELDS = (
     (field_of("11", "1.") + "\n" * 16384, (-2, -10)),
     ("\n" * 16384, (-10,)),
     ("\n" * 16385, (-2, -10)),
+)
+# They are no builds of some catalogues only: each of those above that are right has p00 or a.
+FAULTY_BUILDS = (
+    ("", (-5,)),
+    ("build a\nput zz 1 0 0 0 0\n", (-5,)),
+    ("build A\n", (-5,)),
+    ("build a\n" * 2048, (-5,)),
+    ("build a\n" * 2048 + "\n", (-2, -5)),
+    ("build a\n".ljust(16500, "\n"), (-2, -5)),
 )
 
 

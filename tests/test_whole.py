@@ -38,9 +38,10 @@ class Whole(unittest.TestCase):
         for row in self.text_c.split("\n"):
             if row.startswith("part"):
                 sizes[len(sizes)] = tuple(map(int, row.split()[2:4]))
+        plates_here = plates(self.c)
         under = {}
         for part, colour, x, y, z, r in self.lines(text):
-            self.assertIn(part, plates(self.c))
+            self.assertIn(part, plates_here)
             for dx in range(sizes[part][0]):
                 for dy in range(sizes[part][1]):
                     self.assertLess(x + dx, width)
